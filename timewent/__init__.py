@@ -1,0 +1,1 @@
+"""Where the time of requests went, told by their pieces of work."""
