@@ -15,6 +15,18 @@ def apart(request):
     return [2, request]
 
 
+def path(request):
+    return [3, request]
+
+
+def time(request, piece_id):
+    return [4, request, piece_id]
+
+
+def kind(number):
+    return [5, number]
+
+
 def flat(rows):
     return [number for row in rows for number in row]
 
@@ -32,14 +44,37 @@ def split(given):
     return rows
 
 
-def ask(rows):
-    """What the rows answer behind a begin of their own, each answer one number."""
+def ask_lists(rows):
+    """What the rows answer behind a begin of their own, each answer a list of numbers."""
     first, *rest = split(answers(flat([BEGIN] + rows)))
     if first != [0]:
         raise AssertionError(f"begin answered {first}")
-    if len(rest) != len(rows) or any(len(answer) != 1 for answer in rest):
+    if len(rest) != len(rows):
+        raise AssertionError(f"not one answer a call: {rest}")
+    return rest
+
+
+def ask(rows):
+    """What the rows answer behind a begin of their own, each answer one number."""
+    rest = ask_lists(rows)
+    if any(len(answer) != 1 for answer in rest):
         raise AssertionError(f"not one number a call: {rest}")
     return [answer[0] for answer in rest]
+
+
+def threes(answer):
+    """The parts that a path answered, each a tuple of id, from when, till when."""
+    if not answer or answer[0] < 0 or len(answer) != 1 + 3 * answer[0]:
+        raise AssertionError(f"not an answer of path: {answer}")
+    return [tuple(answer[at:at + 3]) for at in range(1, len(answer), 3)]
+
+
+def parts(rows, request=0):
+    """The parts of the request once the rows, all of them tells, were told."""
+    *told, answer = ask_lists(rows + [path(request)])
+    if any(len(count) != 1 or count[0] < 0 for count in told):
+        raise AssertionError(f"a tell was refused: {told}")
+    return threes(answer)
 
 
 def last(rows):

@@ -76,6 +76,22 @@ class Forms(unittest.TestCase):
             if isinstance(node, ast.Constant):
                 self.assertNotIsInstance(node.value, (float, bytes, complex), name)
 
+    def test_no_name_is_a_method_and_a_value_of_an_object(self):
+        methods = set()
+        values = set()
+        for name, node in nodes():
+            if isinstance(node, ast.ClassDef):
+                methods.update(part.name for part in node.body if isinstance(part, ast.FunctionDef))
+            if isinstance(node, ast.Attribute) and isinstance(node.ctx, ast.Store):
+                values.add(node.attr)
+        self.assertEqual(methods & values, set())
+
+    def test_comprehensions_have_one_for_and_at_most_one_if(self):
+        for name, node in nodes():
+            if isinstance(node, ast.ListComp):
+                self.assertEqual(len(node.generators), 1, name)
+                self.assertLessEqual(len(node.generators[0].ifs), 1, name)
+
     def test_names_are_plain_and_no_built_in_is_used_or_renamed_beyond_the_list(self):
         for name, node in nodes():
             if isinstance(node, ast.Name):

@@ -10,6 +10,8 @@ WRONG_NUMBER = -22
 BEGIN = 0
 TELL = 1
 APART = 2
+PATH = 3
+TIME = 4
 
 # How many whole numbers stand behind the number of each call: begin, tell, apart, path, time, kind.
 NUMBERS_OF_CALL = (0, 6, 1, 1, 2, 1)
@@ -40,6 +42,24 @@ class Requests:
             return WRONG_NUMBER
         return self.by_number[request].apart()
 
+    def path(self, request):
+        """Answer how many parts the request has, and three numbers of each; or a refusal alone."""
+        if request > LAST_REQUEST:
+            return [WRONG_NUMBER]
+        return self.by_number[request].path()
+
+    def time(self, request, piece_id):
+        """Answer how long the parts are together that fall to the piece of the request; or a refusal."""
+        if request > LAST_REQUEST:
+            return WRONG_NUMBER
+        return self.by_number[request].time(piece_id)
+
+    def time_of_kind(self, kind):
+        """Answer how long the parts of all requests are together that fall to pieces of the kind; or a refusal."""
+        if kind > LAST_KIND:
+            return WRONG_NUMBER
+        return sum([request.time_of_kind(kind) for request in self.by_number])
+
 
 def answer_call(requests, call, numbers):
     """All numbers that one call answers."""
@@ -49,8 +69,11 @@ def answer_call(requests, call, numbers):
         return [requests.tell(numbers[0], numbers[1], numbers[2], numbers[3], numbers[4], numbers[5])]
     if call == APART:
         return [requests.apart(numbers[0])]
-    # path, time and kind have no answer yet; the calls behind them are answered all the same.
-    return []
+    if call == PATH:
+        return requests.path(numbers[0])
+    if call == TIME:
+        return [requests.time(numbers[0], numbers[1])]
+    return [requests.time_of_kind(numbers[0])]
 
 
 def answers(calls):
